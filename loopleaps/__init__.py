@@ -1,0 +1,1 @@
+"""Loops with branches, leapt phase by phase: `loopleaps.leaps.answers` is the way in."""
