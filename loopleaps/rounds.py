@@ -1,4 +1,4 @@
-"""Tests, moves and single rounds of a loop.
+"""Tests, moves and rounds of a loop.
 
 A loop is a tuple of branches, a branch a tuple of its tests and its move. A test is a
 tuple as told in numbers: (0, counter, number), (1, counter, number), (2, counter, other,
@@ -15,6 +15,11 @@ GIVEN_NUMBER = 0
 GIVEN_COUNTER = 1
 
 FARTHEST = 1000000000000
+
+# What a loop done round by round comes to.
+ENDED = 0
+BEYOND = 1
+GOES_ON = 2
 
 
 def room_left(test, values):
@@ -50,3 +55,17 @@ def moved(move, values):
 def is_beyond(values):
     """Whether some value is beyond."""
     return any([abs(value) > FARTHEST for value in values])
+
+
+def rounds_run(loop, values, most):
+    """What the loop done round by round comes to, so many rounds at most; how many; the values then."""
+    done = 0
+    number = chosen_branch(loop, values)
+    while number is not None and done < most:
+        values = moved(loop[number][1], values)
+        done += 1
+        # Looked at ahead of the loop's end: a value that is beyond counts for more.
+        if is_beyond(values):
+            return (BEYOND, done, values)
+        number = chosen_branch(loop, values)
+    return (ENDED if number is None else GOES_ON, done, values)

@@ -2,8 +2,8 @@
 
 import unittest
 
-from helper import (CHOSEN, LEAP, PATTERN, TIMES, ask, at_least, at_most, branch, last, loop, old, put, remainder,
-                    values)
+from helper import (CHOSEN, LEAP, PATTERN, TIMES, ask, at_most, beyond_within_a_pattern, branch, last, loop, old, put,
+                    remainder, three_leaps, values)
 
 
 class Leapt(unittest.TestCase):
@@ -14,7 +14,8 @@ class Leapt(unittest.TestCase):
 
     def test_three_in_turn(self):
         turns = loop(branch([remainder(0, 3, 0), at_most(0, 29)], old(0, 1), old(1, 1)),
-                     branch([remainder(0, 3, 1)], old(0, 1), old(1, 10)), branch([remainder(0, 3, 2)], old(0, 1), put(5)))
+                     branch([remainder(0, 3, 1)], old(0, 1), old(1, 10)),
+                     branch([remainder(0, 3, 2)], old(0, 1), put(5)))
         self.assertEqual(ask(turns, LEAP, CHOSEN)[1:], [[1, 3, 0, 1, 2, 10, 30, 5], [0]])
         self.assertEqual(ask(turns, values(1, 0), LEAP, LEAP)[2:],
                          [[1, 3, 1, 2, 0, 9, 28, 6], [1, 1, 1, 1, 29, 16]])
@@ -49,17 +50,9 @@ class NotLeapt(unittest.TestCase):
 
 
 class Beyond(unittest.TestCase):
-    def up_to(self, sign, more):
-        """Three leaps, the third of which ends with the last value sign * (10^12 + more)."""
-        tests = [at_least(0, -29999), at_least(1, 1), at_least(2, 1)]
-        three = loop(branch(tests[:1], old(0, -1), old(1, 99), old(2), old(3)),
-                     branch(tests[1:2], old(0), old(1, -1), old(2, 99), old(3)),
-                     branch(tests[2:], old(0), old(1), old(2, -1), old(3, 99 * sign)))
-        return [three, values(1000000, 60000, 40101, sign * (1 + more)), LEAP, LEAP]
-
     def test_the_farthest_value_is_not_beyond(self):
         for sign in (1, -1):
-            self.assertEqual(ask(*self.up_to(sign, 0), TIMES, LEAP, CHOSEN)[2:],
+            self.assertEqual(ask(*three_leaps(sign, 0), LEAP, LEAP, TIMES, LEAP, CHOSEN)[2:],
                              [[1, 1, 0, 1030000, -30000, 102030000, 40101, sign],
                               [1, 1, 1, 102030000, -30000, 0, 10101010101, sign],
                               [1, 10101010101],
@@ -68,7 +61,8 @@ class Beyond(unittest.TestCase):
 
     def test_one_farther_is_refused_and_nothing_is_changed(self):
         for sign in (1, -1):
-            self.assertEqual(ask(*self.up_to(sign, 1), LEAP, CHOSEN, PATTERN, TIMES, LEAP, values(0, 0, 1, 2), LEAP)[4:],
+            self.assertEqual(ask(*three_leaps(sign, 1), LEAP, LEAP, LEAP, CHOSEN, PATTERN, TIMES, LEAP,
+                                 values(0, 0, 1, 2), LEAP)[4:],
                              [[-7], [1, 2], [1, 2], [1, 10101010101], [-7], [0],
                               [1, 1, 0, 30000, -30000, 2970000, 1, 2]])
 
@@ -77,11 +71,7 @@ class Beyond(unittest.TestCase):
         self.assertEqual(last(up, values(1000000), LEAP), [2, 1, 0])
 
     def test_values_within_a_pattern_are_not_looked_at(self):
-        tests = [at_most(2, 3), at_most(2, 12)]
-        grows = loop(branch([at_least(1, 1), tests[0]], old(0, 99), old(1, -1), old(2)),
-                     branch([at_most(1, 0), tests[1]], old(0), old(0, 99), old(2, 1)),
-                     branch([at_least(1, 1)], old(0, 1), put(0), old(2)))
-        told = ask(grows, values(9901, 10000, 0), *[LEAP] * 9)[2:]
+        told = ask(*beyond_within_a_pattern(), *[LEAP] * 9)[2:]
         self.assertEqual(told[:6:2], [[1, 1, 0, 10000, 999901, 0, 0], [1, 1, 0, 10 ** 6, 99999901, 0, 1],
                                       [1, 1, 0, 10 ** 8, 9999999901, 0, 2]])
         self.assertEqual(told[1::2][:3], [[1, 1, 1, 1, 999901, 10 ** 6, 1], [1, 1, 1, 1, 99999901, 10 ** 8, 2],

@@ -4,7 +4,7 @@ import random
 import unittest
 
 from helper import (CHOSEN, LEAP, PATTERN, TIMES, ask, at_least, at_most, below, branch, last, loop, naive_pattern,
-                    naive_times, old, put, remainder, values)
+                    naive_times, old, put, random_branch, remainder, values)
 
 RING = [old(1), old(2), old(3), old(0, 1)]
 
@@ -81,30 +81,10 @@ class LikeNaive(unittest.TestCase):
         self.assertEqual(self.check(ring, [-7, 5, 3, 0], 10 ** 5), 39978)
         window = [branch([at_least(0, 70000), at_most(0, 70010), remainder(0, 6, 1)], old(0, 1)), branch([], old(0, 5))]
         self.assertEqual(self.check(window, [3], 10 ** 5), 14000)
-        three = [branch([remainder(0, 3, 0)], old(0, 1), old(1, 2)), branch([remainder(0, 3, 1)], old(0, 1), old(1, -1)),
+        three = [branch([remainder(0, 3, 0)], old(0, 1), old(1, 2)),
+                 branch([remainder(0, 3, 1)], old(0, 1), old(1, -1)),
                  branch([at_most(1, 20000)], old(0, 1), old(1))]
         self.assertEqual(self.check(three, [0, 0], 10 ** 5), 20000)
-
-    def random_test(self, chance, counters, far):
-        counter = chance.randrange(counters)
-        kind = chance.choice([0, 1, 2, 2, 3])
-        if kind == 3:
-            divisor = chance.choice([2, 3, 4, 6])
-            return remainder(counter, divisor, chance.randrange(divisor))
-        number = chance.randint(-far, far)
-        if kind == 2:
-            return below(counter, chance.randrange(counters), number)
-        return [kind, counter, number]
-
-    def random_branch(self, chance, counters, far):
-        tests = [self.random_test(chance, counters, far) for place in range(chance.choice([0, 1, 1, 2, 3]))]
-        order = list(range(counters))
-        if chance.random() < 0.5:
-            chance.shuffle(order)
-        move = [old(counter, chance.choice([0, 0, 1, -1, 2, -3, chance.randint(-99, 99)])) for counter in order]
-        if chance.random() < 0.2:
-            move[0] = chance.choice([put(chance.randint(-99, 99)), old(chance.randrange(counters), 1)])
-        return branch(tests, *move)
 
     def test_many(self):
         chance = random.Random(20)
@@ -112,7 +92,7 @@ class LikeNaive(unittest.TestCase):
         for place in range(4000):
             counters = chance.randint(1, 4)
             far = chance.choice([5, 60, 1000])
-            branches = [self.random_branch(chance, counters, far) for place in range(chance.randint(1, 3))]
+            branches = [random_branch(chance, counters, far, [0, 1, 1, 2, 3]) for place in range(chance.randint(1, 3))]
             amounts = [chance.randint(-far, far) for counter in range(counters)]
             often = self.check(branches, amounts, 700)
             seen[0 if often < 20 else 1 if often < 699 else 2] += 1
